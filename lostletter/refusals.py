@@ -1,0 +1,9 @@
+"""The numbers below 0 that a refused call answers."""
+
+NOT_THERE = -2
+NOT_IN_CODE = -6
+ALREADY_SO = -17
+OUT_OF_RANGE = -22
+TOO_MANY = -28
+ALIKE = -33
+TOO_LONG = -75
