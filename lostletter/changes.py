@@ -1,11 +1,10 @@
 """The calls that change the code."""
 
-from lostletter.refusals import ALIKE, ALREADY_SO, NOT_IN_CODE, OUT_OF_RANGE, TOO_LONG, TOO_MANY
-from lostletter.safe import is_safe, safe_with_most
+from lostletter.refusals import ALIKE, ALREADY_SO, NOT_IN_CODE, OUT_OF_RANGE, TOO_MANY
+from lostletter.safe import refusal_to_search, safe_with_most
 from lostletter.words import alike_by_losing
 
 MOST_IN_CODE = 24
-MOST_LETTERS_SEARCHED = 5
 
 
 def changed_to(session, code):
@@ -79,10 +78,9 @@ def take(session, given):
 def grow(session, given):
     """ll_grow."""
     code = session.history.code
-    if session.n > MOST_LETTERS_SEARCHED:
-        return [TOO_LONG]
-    if not is_safe(code, session.n):
-        return [ALIKE]
+    refusal = refusal_to_search(code, session.n)
+    if refusal < 0:
+        return [refusal]
     most = safe_with_most(code, session.n)
     if most == code:
         return [ALREADY_SO]

@@ -1,7 +1,7 @@
-"""The calls that look at words and classes, and change nothing."""
+"""The calls that look at words and classes, whatever the code is."""
 
 from lostletter.refusals import OUT_OF_RANGE
-from lostletter.words import gained, gaining, losing, lost, runs, told
+from lostletter.words import alike_by_gaining, alike_by_losing, common, gained, gaining, losing, lost, runs, told
 
 LOST_TOLD = 10
 GAINED_TOLD = 12
@@ -65,6 +65,23 @@ def tell_largest(session, given):
     return [sizes.index(most), most]
 
 
+def tell_alike(session, given):
+    """ll_alike: u, v."""
+    first = given[0]
+    second = given[1]
+    if first == second:
+        return [OUT_OF_RANGE]
+    losing_one = 1 if alike_by_losing(first, second, session.n) else 0
+    gaining_one = 1 if alike_by_gaining(first, second, session.n) else 0
+    return [losing_one, gaining_one]
+
+
+def tell_common(session, given):
+    """ll_common: u, v."""
+    shorter = common(given[0], given[1], session.n)
+    return [len(shorter)] + told(shorter, LOST_TOLD)
+
+
 LOOKS = {
     7: tell_lost,
     8: tell_gained,
@@ -74,6 +91,8 @@ LOOKS = {
     12: tell_weight,
     13: tell_class,
     14: tell_largest,
+    15: tell_alike,
+    23: tell_common,
 }
 
 

@@ -1,6 +1,9 @@
 """Safe sets of words, and the one with most."""
 
+from lostletter.refusals import ALIKE, TOO_LONG
 from lostletter.words import gained, lost
+
+MOST_LETTERS_SEARCHED = 5
 
 
 def is_safe(code, n):
@@ -12,6 +15,20 @@ def is_safe(code, n):
                 return False
             seen[shorter] = True
     return True
+
+
+def free_words(code, n):
+    """All words that are alike by losing with none of the code, and not of it, rising."""
+    shorter = {}
+    for word in code:
+        for left in lost(word, n):
+            shorter[left] = True
+    near = {}
+    for left in shorter:
+        # A word of the code is among those it is near to, as it gains back what it lost.
+        for word in gained(left, n - 1):
+            near[word] = True
+    return [word for word in range(1 << n) if word not in near]
 
 
 def mask_of(words):
@@ -57,3 +74,12 @@ def safe_with_most(code, n):
     for word in code:
         free = free & ~near[word]
     return tuple(sorted(list(code) + list(most_within(free, near, {}))))
+
+
+def refusal_to_search(code, n):
+    """Why the safe set with most that has the code isn't told; 0 if it is."""
+    if n > MOST_LETTERS_SEARCHED:
+        return TOO_LONG
+    if not is_safe(code, n):
+        return ALIKE
+    return 0

@@ -24,9 +24,9 @@ class Session:
         self.weights = weights(n)
         self.history = History()
 
-    def has_word(self, word):
-        """Whether there is such a word of n letters."""
-        return word < len(self.weights)
+    def has_word(self, word, more):
+        """Whether there is such a word of n letters and as many more as told."""
+        return word < (1 << (self.n + more))
 
     def has_class(self, a):
         """Whether there is a class a."""

@@ -11,6 +11,11 @@ def letter_at(word, n, place):
     return (word >> (n - 1 - place)) & 1
 
 
+def letters_of(word, n):
+    """All letters of the word, the first one foremost."""
+    return [letter_at(word, n, place) for place in range(n)]
+
+
 def losing(word, n, place):
     """What comes of the word by losing the letter at the place."""
     behind = n - 1 - place
@@ -43,9 +48,19 @@ def runs(word, n):
     return 1 + len(turns)
 
 
+def common(first, second, n):
+    """All that comes of both words by losing a letter, rising, each once."""
+    return sorted(set(lost(first, n)) & set(lost(second, n)))
+
+
 def alike_by_losing(first, second, n):
     """Whether some same word comes of both by losing a letter."""
-    return len(set(lost(first, n)) & set(lost(second, n))) > 0
+    return len(common(first, second, n)) > 0
+
+
+def alike_by_gaining(first, second, n):
+    """Whether some same word comes of both by gaining a letter."""
+    return len(set(gained(first, n)) & set(gained(second, n))) > 0
 
 
 def weights(n):

@@ -4,9 +4,22 @@ It is written apart from the program and shares nothing with it. `split` parts w
 `answers` gives back into one list a call; `play` answers calls by this file alone.
 """
 
+import random
+from functools import lru_cache
 from itertools import combinations, product
 
-GIVEN = [1, 1, 1, 1, 1, 0, 0, 1, 1, 2, 3, 1, 1, 1, 0]
+NAMES = [
+    "start", "add", "force", "drop", "take", "grow", "clear", "lost", "gained", "losing", "gaining", "runs", "weight",
+    "of_class", "largest", "alike", "is_safe", "most", "may", "mend", "mendg", "back", "out", "common", "tell_code",
+    "write", "undo", "again", "state",
+]
+GIVEN = [1, 1, 1, 1, 1, 0, 0, 1, 1, 2, 3, 1, 1, 1, 0, 2, 0, 0, 0, 1, 1, 2, 2, 2, 0, 1, 0, 0, 0]
+
+# Which of the numbers a call is given are words, and how many letters more than n these have.
+WORDS = {
+    1: {0: 0}, 2: {0: 0}, 3: {0: 0}, 7: {0: 0}, 8: {0: 0}, 9: {0: 0}, 10: {0: 0}, 11: {0: 0}, 12: {0: 0},
+    15: {0: 0, 1: 0}, 19: {0: -1}, 20: {0: 1}, 21: {1: -1}, 22: {1: 1}, 23: {0: 0, 1: 0},
+}
 
 
 def flat(calls):
@@ -76,6 +89,7 @@ def better(first, second):
     return bool(differ) and min(differ) in first
 
 
+@lru_cache(maxsize=None)
 def most(code, n):
     """The safe set with most: every safe set that has the code is tried."""
     best = frozenset(code)
@@ -89,36 +103,81 @@ def most(code, n):
     return best
 
 
+def may(code, n):
+    """All words that are alike with none of the code, and not of it, rising."""
+    return [w for w in all_words(n) if w not in code and not any(alike(w, v) for v in code)]
+
+
+def the_one(texts):
+    if len(texts) == 1:
+        return [number(texts[0])]
+    return [-16] if texts else [-33]
+
+
 def listed(texts, many):
     told = sorted(number(text) + 1 for text in texts)
     return told + [0] * (many - len(told))
 
 
+def texts(words, n):
+    return frozenset(spelled(w, n) for w in words)
+
+
+@lru_cache(maxsize=None)
+def some_codes(n):
+    """Codes, safe ones and others, of none to 24 words, each in some order."""
+    source = random.Random(n)
+    codes = [[], [0], [2 ** n - 1], [0, 2 ** n - 1], [0, 1]]
+    for many in (2, 3, 5, 10, 16, 24):
+        if many <= 2 ** n:
+            codes.append(source.sample(range(2 ** n), many))
+    for round_number in range(4):
+        words = safe_words(source.sample(range(2 ** n), 2 ** n), n)
+        codes += [words, words[:3]]
+    return codes
+
+
+def safe_words(words, n):
+    """Of the words, in their order, each that is alike with none ahead of it, at most 24."""
+    there = []
+    for w in words:
+        if len(there) < 24 and not any(alike(spelled(w, n), spelled(v, n)) for v in there):
+            there.append(w)
+    return there
+
+
 class Plain:
-    """One object of the document, points 1 to 3."""
+    """One object of the document: all codes in a row, and which of them is the one there is."""
 
     def __init__(self):
         self.n = None
-        self.code = frozenset()
+        self.codes = [frozenset()]
+        self.at = 0
+
+    @property
+    def code(self):
+        return self.codes[self.at]
+
+    @code.setter
+    def code(self, changed):
+        self.codes = self.codes[:self.at + 1] + [changed]
+        self.codes = self.codes[-21:]
+        self.at = len(self.codes) - 1
 
     def call(self, which, *given):
-        if which == 0:
-            return self.start(*given)
-        if which in (1, 2, 3, 7, 8, 9, 10, 11, 12):
-            if given[0] >= 2 ** self.n:
+        given = list(given)
+        for place, more in WORDS.get(which, {}).items():
+            if given[place] >= 2 ** (self.n + more):
                 return [-2]
-            given = (spelled(given[0], self.n),) + given[1:]
-        names = {
-            1: "add", 2: "force", 3: "drop", 4: "take", 5: "grow", 6: "clear", 7: "lost", 8: "gained",
-            9: "losing", 10: "gaining", 11: "runs", 12: "weight", 13: "of_class", 14: "largest",
-        }
-        return getattr(self, names[which])(*given)
+            given[place] = spelled(given[place], self.n + more)
+        return getattr(self, NAMES[which])(*given)
 
     def start(self, n):
         if n not in range(2, 11):
             return [-22]
         self.n = n
-        self.code = frozenset()
+        self.codes = [frozenset()]
+        self.at = 0
         return [0]
 
     def add(self, w):
@@ -206,6 +265,70 @@ class Plain:
     def largest(self):
         sizes = [len(class_words(self.n, a)) for a in range(self.n + 1)]
         return [sizes.index(max(sizes)), max(sizes)]
+
+    def alike(self, u, v):
+        if u == v:
+            return [-22]
+        return [int(alike(u, v)), int(alike_by_gaining(u, v))]
+
+    def common(self, u, v):
+        both = lost(u) & lost(v)
+        return [len(both)] + listed(both, 10)
+
+    def is_safe(self):
+        return [int(safe(self.code))]
+
+    def most(self):
+        if self.n > 5:
+            return [-75]
+        if not safe(self.code):
+            return [-33]
+        best = most(self.code, self.n)
+        return [len(best)] + listed(best, 10)
+
+    def may(self):
+        words = may(self.code, self.n)
+        return [len(words), number(words[0]) + 1 if words else 0]
+
+    def mend(self, s):
+        return the_one([w for w in self.code if s in lost(w)])
+
+    def mendg(self, s):
+        return the_one([w for w in self.code if s in gained(w)])
+
+    def back(self, a, s):
+        if a > self.n:
+            return [-22]
+        return the_one([w for w in class_words(self.n, a) if s in lost(w)])
+
+    def out(self, a, s):
+        if a > self.n:
+            return [-22]
+        return the_one([w for w in class_words(self.n, a) if s in gained(w)])
+
+    def tell_code(self):
+        return [len(self.code)] + listed(self.code, 24)
+
+    def write(self, k):
+        words = sorted(self.code)
+        if k >= len(words):
+            return [-2]
+        return [number(words[k])] + [int(letter) for letter in words[k].ljust(10, "0")]
+
+    def undo(self):
+        if self.at == 0:
+            return [-2]
+        self.at -= 1
+        return [self.at]
+
+    def again(self):
+        if self.at == len(self.codes) - 1:
+            return [-2]
+        self.at += 1
+        return [len(self.codes) - 1 - self.at]
+
+    def state(self):
+        return [len(self.code), self.n, self.at, len(self.codes) - 1 - self.at]
 
 
 def play(calls):

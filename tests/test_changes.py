@@ -4,17 +4,10 @@ import unittest
 from itertools import combinations
 
 import plain
-from asked import (ADD, CLEAR, DROP, FORCE, GREATEST, GROW, START, TAKE, ask, code_behind, forced, last)
+from asked import (ADD, CLEAR, DROP, FORCE, GREATEST, GROW, START, TAKE, AskedTest, ask, code_behind, forced, last)
 
 
-class ChangesTest(unittest.TestCase):
-    def assert_refused(self, calls, n, call, refusal):
-        """The call is refused so, and the code stays as it was."""
-        self.assertEqual(last(calls + [call]), [refusal], call)
-        self.assertEqual(code_behind(calls + [call], n), code_behind(calls, n))
-
-
-class AddTest(ChangesTest):
+class AddTest(AskedTest):
     def test_tells_how_many_words(self):
         calls = [[START, 4], [ADD, 15], [ADD, 0], [ADD, 3]]
         self.assertEqual(ask(calls), [[0], [1], [2], [3]])
@@ -28,30 +21,30 @@ class AddTest(ChangesTest):
 
     def test_is_alike_with_any_word_of_the_code(self):
         for w in (1, 14, 7):
-            self.assert_refused([[START, 4], [ADD, 0], [ADD, 15], [ADD, 3]], 4, [ADD, w], -33)
+            self.assert_refused([[START, 4], [ADD, 0], [ADD, 15], [ADD, 3]], [ADD, w], -33)
 
     def test_refuses_what_is_in_the_code_ahead_of_what_is_alike(self):
-        self.assert_refused(forced(4, [0, 1]), 4, [ADD, 1], -17)
+        self.assert_refused(forced(4, [0, 1]), [ADD, 1], -17)
 
     def test_a_code_of_24_words(self):
         full = forced(10, range(24))
         self.assertEqual(last(full), [24, last(full)[1]])
-        self.assert_refused(full, 10, [ADD, 1023], -28)
+        self.assert_refused(full, [ADD, 1023], -28)
         # 24 is alike with some of these words too: that there are 24 of them is told ahead of it.
         self.assertGreater(last(forced(10, list(range(23)) + [24]))[1], 0)
-        self.assert_refused(full, 10, [ADD, 24], -28)
-        self.assert_refused(full, 10, [ADD, 23], -17)
-        self.assert_refused(full, 10, [ADD, 1024], -2)
+        self.assert_refused(full, [ADD, 24], -28)
+        self.assert_refused(full, [ADD, 23], -17)
+        self.assert_refused(full, [ADD, 1024], -2)
 
     def test_the_24th_is_taken(self):
         self.assertEqual(last(forced(10, range(23)) + [[ADD, 1023]]), [24])
 
     def test_no_such_word(self):
-        self.assert_refused(forced(3, [0, 7]), 3, [ADD, 8], -2)
-        self.assert_refused(forced(3, [0, 7]), 3, [ADD, GREATEST], -2)
+        self.assert_refused(forced(3, [0, 7]), [ADD, 8], -2)
+        self.assert_refused(forced(3, [0, 7]), [ADD, GREATEST], -2)
 
 
-class ForceTest(ChangesTest):
+class ForceTest(AskedTest):
     def test_tells_with_how_many_others_it_is_alike(self):
         self.assertEqual(ask([[START, 3], [FORCE, 0], [FORCE, 7], [FORCE, 1], [FORCE, 2], [FORCE, 5]]),
                          [[0], [1, 0], [2, 0], [3, 1], [4, 2], [5, 3]])
@@ -68,16 +61,16 @@ class ForceTest(ChangesTest):
 
     def test_refusals(self):
         full = forced(6, range(24))
-        self.assert_refused(full, 6, [FORCE, 64], -2)
-        self.assert_refused(full, 6, [FORCE, GREATEST], -2)
-        self.assert_refused(full, 6, [FORCE, 0], -17)
-        self.assert_refused(full, 6, [FORCE, 24], -28)
-        self.assert_refused(full, 6, [FORCE, 63], -28)
-        self.assert_refused(forced(6, [0]), 6, [FORCE, 0], -17)
+        self.assert_refused(full, [FORCE, 64], -2)
+        self.assert_refused(full, [FORCE, GREATEST], -2)
+        self.assert_refused(full, [FORCE, 0], -17)
+        self.assert_refused(full, [FORCE, 24], -28)
+        self.assert_refused(full, [FORCE, 63], -28)
+        self.assert_refused(forced(6, [0]), [FORCE, 0], -17)
         self.assertEqual(last(forced(6, range(23)) + [[FORCE, 63]])[0], 24)
 
 
-class DropTest(ChangesTest):
+class DropTest(AskedTest):
     def test_tells_how_many_are_left(self):
         calls = [[START, 4], [ADD, 0], [ADD, 3], [ADD, 15], [DROP, 3], [DROP, 0]]
         self.assertEqual(ask(calls)[-2:], [[2], [1]])
@@ -85,18 +78,18 @@ class DropTest(ChangesTest):
         self.assertEqual(last(calls + [[DROP, 15]]), [0])
 
     def test_refusals(self):
-        self.assert_refused(forced(4, [0, 15]), 4, [DROP, 3], -6)
-        self.assert_refused(forced(4, [0, 15]), 4, [DROP, 16], -2)
-        self.assert_refused(forced(4, [0, 15]), 4, [DROP, GREATEST], -2)
-        self.assert_refused([[START, 4]], 4, [DROP, 0], -6)
-        self.assert_refused([[START, 4], [ADD, 0], [DROP, 0]], 4, [DROP, 0], -6)
+        self.assert_refused(forced(4, [0, 15]), [DROP, 3], -6)
+        self.assert_refused(forced(4, [0, 15]), [DROP, 16], -2)
+        self.assert_refused(forced(4, [0, 15]), [DROP, GREATEST], -2)
+        self.assert_refused([[START, 4]], [DROP, 0], -6)
+        self.assert_refused([[START, 4], [ADD, 0], [DROP, 0]], [DROP, 0], -6)
 
     def test_makes_room(self):
         self.assertEqual(last(forced(6, range(24)) + [[DROP, 5], [FORCE, 63]])[0], 24)
         self.assertEqual(last([[START, 4], [ADD, 0], [DROP, 0], [ADD, 1]]), [1])
 
 
-class TakeTest(ChangesTest):
+class TakeTest(AskedTest):
     def test_the_code_is_the_class(self):
         for n in range(2, 8):
             for a in range(n + 1):
@@ -112,24 +105,24 @@ class TakeTest(ChangesTest):
     def test_no_such_class(self):
         for n in range(2, 11):
             for a in (n + 1, n + 2, GREATEST):
-                self.assert_refused([[START, n], [ADD, 1]], n, [TAKE, a], -22)
+                self.assert_refused([[START, n], [ADD, 1]], [TAKE, a], -22)
 
     def test_a_class_of_more_than_24_words(self):
         for n in (8, 9, 10):
             for a in range(n + 1):
                 self.assertGreater(len(plain.class_words(n, a)), 24)
                 self.assertEqual(last([[START, n], [TAKE, a]]), [-28])
-            self.assert_refused([[START, n], [ADD, 1]], n, [TAKE, n], -28)
+            self.assert_refused([[START, n], [ADD, 1]], [TAKE, n], -28)
 
     def test_it_is_the_code_already(self):
         for n in range(2, 8):
-            self.assert_refused([[START, n], [TAKE, n]], n, [TAKE, n], -17)
+            self.assert_refused([[START, n], [TAKE, n]], [TAKE, n], -17)
         # However it came to be that.
-        self.assert_refused([[START, 2], [ADD, 3], [ADD, 0]], 2, [TAKE, 0], -17)
+        self.assert_refused([[START, 2], [ADD, 3], [ADD, 0]], [TAKE, 0], -17)
         self.assertEqual(last([[START, 4], [TAKE, 0], [DROP, 0], [TAKE, 0]]), [4])
 
 
-class GrowTest(ChangesTest):
+class GrowTest(AskedTest):
     def test_from_no_code(self):
         for n, words in ((2, [0, 3]), (3, [0, 3]), (4, [0, 3, 10, 15]), (5, [0, 3, 13, 18, 28, 31])):
             self.assertEqual(last([[START, n], [GROW]]), [len(words)])
@@ -139,7 +132,7 @@ class GrowTest(ChangesTest):
         best = sorted(plain.number(t) for t in plain.most(frozenset(plain.spelled(w, n) for w in code), n))
         calls = forced(n, code) + [[GROW]]
         if best == sorted(code):
-            self.assert_refused(forced(n, code), n, [GROW], -17)
+            self.assert_refused(forced(n, code), [GROW], -17)
         else:
             self.assertEqual(last(calls), [len(best)])
             self.assertEqual(code_behind(calls, n), best)
@@ -160,27 +153,27 @@ class GrowTest(ChangesTest):
 
     def test_more_than_5_letters(self):
         for n in range(6, 11):
-            self.assert_refused(forced(n, [0]), n, [GROW], -75)
+            self.assert_refused(forced(n, [0]), [GROW], -75)
             self.assertEqual(last([[START, n], [GROW]]), [-75])
         self.assertEqual(last([[START, 5], [GROW]]), [6])
 
     def test_length_is_told_ahead_of_a_code_that_is_not_safe(self):
-        self.assert_refused(forced(6, [0, 1]), 6, [GROW], -75)
+        self.assert_refused(forced(6, [0, 1]), [GROW], -75)
 
     def test_a_code_that_is_not_safe(self):
         for n in (2, 3, 4, 5):
-            self.assert_refused(forced(n, [0, 1]), n, [GROW], -33)
-        self.assert_refused(forced(5, range(24)), 5, [GROW], -33)
+            self.assert_refused(forced(n, [0, 1]), [GROW], -33)
+        self.assert_refused(forced(5, range(24)), [GROW], -33)
         self.assertEqual(last(forced(5, [0, 1]) + [[DROP, 1], [GROW]]), [6])
 
     def test_it_is_the_safe_set_with_most_already(self):
         for n in (2, 3, 4, 5):
-            self.assert_refused([[START, n], [GROW]], n, [GROW], -17)
+            self.assert_refused([[START, n], [GROW]], [GROW], -17)
         # One of as many words stays as it is, whichever it is: it must have all of the code.
-        self.assert_refused(forced(2, [1]), 2, [GROW], -17)
+        self.assert_refused(forced(2, [1]), [GROW], -17)
 
 
-class ClearTest(ChangesTest):
+class ClearTest(AskedTest):
     def test_tells_how_many_there_were(self):
         self.assertEqual(last(forced(4, [0, 1, 2]) + [[CLEAR]]), [3])
         self.assertEqual(code_behind(forced(4, [0, 1, 2]) + [[CLEAR]], 4), [])
@@ -188,9 +181,9 @@ class ClearTest(ChangesTest):
 
     def test_no_words(self):
         for n in range(2, 11):
-            self.assert_refused([[START, n]], n, [CLEAR], -17)
-        self.assert_refused(forced(4, [0]) + [[CLEAR]], 4, [CLEAR], -17)
-        self.assert_refused(forced(4, [0]) + [[DROP, 0]], 4, [CLEAR], -17)
+            self.assert_refused([[START, n]], [CLEAR], -17)
+        self.assert_refused(forced(4, [0]) + [[CLEAR]], [CLEAR], -17)
+        self.assert_refused(forced(4, [0]) + [[DROP, 0]], [CLEAR], -17)
 
 
 if __name__ == "__main__":

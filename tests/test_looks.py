@@ -3,16 +3,13 @@
 import unittest
 
 import plain
-from asked import (CLASS, GAINED, GAINING, GREATEST, LARGEST, LOSING, LOST, RUNS, START, WEIGHT, ask, code_behind,
-                   forced, last)
+from asked import (CLASS, GAINED, GAINING, GREATEST, LARGEST, LOSING, LOST, RUNS, START, WEIGHT, ask,
+                   asked_behind, code_behind, forced, last)
 
 
 def asked_of_words(n, calls):
-    """What the calls answer behind a start, some at a time."""
-    told = []
-    for at in range(0, len(calls), 900):
-        told += ask([[START, n]] + calls[at:at + 900])[1:]
-    return told
+    """What the calls answer behind a start."""
+    return asked_behind([[START, n]], calls)
 
 
 class EachWordTest(unittest.TestCase):

@@ -2,8 +2,8 @@
 
 import unittest
 
-from asked import (ADD, CLASS, CLEAR, DROP, FORCE, GAINED, GAINING, GREATEST, GROW, LARGEST, LOSING, LOST, RUNS, START,
-                   TAKE, WEIGHT, ask, code_behind, last)
+from asked import (ADD, ALIKE, CLASS, CLEAR, CODE, COMMON, DROP, FORCE, GAINED, GAINING, GREATEST, GROW, LARGEST,
+                   LOSING, LOST, MAY, MOST, RUNS, SAFE, START, STATE, TAKE, WEIGHT, ask, code_behind, last)
 
 
 class StartTest(unittest.TestCase):
@@ -46,7 +46,7 @@ class StartTest(unittest.TestCase):
 class NoWordTest(unittest.TestCase):
     def calls_with(self, w):
         return [[ADD, w], [FORCE, w], [DROP, w], [LOST, w], [GAINED, w], [LOSING, w, 0], [GAINING, w, 0, 0],
-                [RUNS, w], [WEIGHT, w]]
+                [RUNS, w], [WEIGHT, w], [ALIKE, w, 0], [ALIKE, 0, w], [COMMON, w, 0], [COMMON, 0, w]]
 
     def test_the_greatest_word_is_there(self):
         for n in range(2, 11):
@@ -67,7 +67,8 @@ class NoWordTest(unittest.TestCase):
                 self.assertEqual(last(full + [call]), [-2], call)
 
     def test_calls_that_name_no_word_never_answer_it(self):
-        for call in ([TAKE, GREATEST], [CLASS, GREATEST], [GROW], [CLEAR], [LARGEST]):
+        for call in ([TAKE, GREATEST], [CLASS, GREATEST], [GROW], [CLEAR], [LARGEST], [SAFE], [MOST], [MAY], [CODE],
+                     [STATE]):
             self.assertNotEqual(last([[START, 2], call]), [-2], call)
 
 
